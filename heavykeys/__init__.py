@@ -1,0 +1,1 @@
+"""The heavy keys of a stream, in few counters."""
