@@ -123,7 +123,8 @@ class Add(unittest.TestCase):
         top = 2 ** 32 - 1
         self.assertEqual(state(1, [(7, top)], [7]), [[top], [0], [1], [1, top, top]])
         self.assertEqual(state(1, [(7, top)] * 3, [7]), [[3 * top], [0], [1], [1, 3 * top, 3 * top]])
-        self.assertEqual(state(1, [(7, top), (8, top - 1)], [7, 8]), [[2 * top - 1], [top - 1], [1], [1, 1, top], [0, 0, top - 1]])
+        told = state(1, [(7, top), (8, top - 1)], [7, 8])
+        self.assertEqual(told, [[2 * top - 1], [top - 1], [1], [1, 1, top], [0, 0, top - 1]])
 
     def test_greater_weights_are_refused(self):
         for weight in (2 ** 32, 2 ** 32 + 1, 2 ** 63, GREATEST):
@@ -141,9 +142,8 @@ class Add(unittest.TestCase):
         self.assertEqual(parts, [[0], [-1], [0], [0, 2], [0, 1, 2, 2]])
 
     def test_the_least_and_the_greatest_key(self):
-        self.assertEqual(
-            state(2, [(0, 3), (GREATEST, 4), (0, 1)], [0, GREATEST, 1]), [[8], [0], [2], [1, 4, 4], [1, 4, 4], [0, 0, 0]]
-        )
+        told = state(2, [(0, 3), (GREATEST, 4), (0, 1)], [0, GREATEST, 1])
+        self.assertEqual(told, [[8], [0], [2], [1, 4, 4], [1, 4, 4], [0, 0, 0]])
         self.assertEqual(state(1, [(0, 3), (GREATEST, 5)], [0, GREATEST]), [[8], [3], [1], [0, 0, 3], [1, 2, 5]])
 
     def test_keys_that_differ_in_one_bit_are_apart(self):
@@ -204,10 +204,12 @@ class Kept(unittest.TestCase):
         self.assertEqual(state(3, stream, [1, 2, 3, 4]), [[13], [2], [1], [0, 0, 2], [1, 5, 7], [0, 0, 2], [0, 0, 2]])
 
     def test_the_key_that_comes_may_be_the_one_that_goes(self):
-        self.assertEqual(state(2, [(1, 5), (2, 6), (3, 2)], [1, 2, 3]), [[13], [2], [2], [1, 3, 5], [1, 4, 6], [0, 0, 2]])
+        told = state(2, [(1, 5), (2, 6), (3, 2)], [1, 2, 3])
+        self.assertEqual(told, [[13], [2], [2], [1, 3, 5], [1, 4, 6], [0, 0, 2]])
 
     def test_equal_greatest_counts_stay_together(self):
-        self.assertEqual(state(2, [(1, 5), (2, 1), (3, 5)], [1, 2, 3]), [[11], [1], [2], [1, 4, 5], [0, 0, 1], [1, 4, 5]])
+        told = state(2, [(1, 5), (2, 1), (3, 5)], [1, 2, 3])
+        self.assertEqual(told, [[11], [1], [2], [1, 4, 5], [0, 0, 1], [1, 4, 5]])
 
     def test_there_is_room_again_after_several_went(self):
         stream = [(1, 1), (2, 1), (3, 1), (4, 9), (5, 9)]
