@@ -10,6 +10,11 @@ def is_k(number):
     return number >= 1 and number <= GREATEST_K
 
 
+def rank(entry):
+    # The greatest count comes first, of equal counts the least key.
+    return (-entry[1], entry[0])
+
+
 class Summary:
     def __init__(self, k):
         self.k = k
@@ -17,20 +22,38 @@ class Summary:
         self.error = 0
         self.table = {}
 
+    def ordered(self):
+        return sorted(self.table.items(), key=rank)
+
     def low(self, key):
         return self.table.get(key, 0)
 
     def high(self, key):
         return self.low(key) + self.error
 
-    def can_take(self, weight):
-        return weight < WEIGHT_END and self.total + weight < TOTAL_END
+    def is_above(self, weight, a, b):
+        return weight * b > self.total * a
+
+    def can_take(self, weights):
+        return max(weights, default=0) < WEIGHT_END and self.total + sum(weights) < TOTAL_END
 
     def add(self, key, weight):
         # Every count in the table is 1 or more, so a weight of 0 must not bring a key in.
         if weight > 0:
             self.table[key] = self.low(key) + weight
         self.total += weight
+        self.keep()
+
+    def can_merge(self, other):
+        return self.k == other.k and self.total + other.total < TOTAL_END
+
+    def merge(self, other):
+        together = dict(self.table)
+        for key, count in other.table.items():
+            together[key] = self.low(key) + count
+        self.table = together
+        self.total += other.total
+        self.error += other.error
         self.keep()
 
     def keep(self):
@@ -44,3 +67,14 @@ class Summary:
                 kept[key] = count - cut
         self.table = kept
         self.error += cut
+
+    def is_within_limits(self):
+        counts = list(self.table.values())
+        return is_k(self.k) and self.total < TOTAL_END and len(counts) <= self.k and 0 not in counts
+
+    def is_proper(self):
+        counted = sum(self.table.values())
+        # Without an error nothing was ever taken off, so nothing may be missing.
+        if self.error == 0:
+            return counted == self.total
+        return (self.k + 1) * self.error + counted <= self.total

@@ -1,9 +1,20 @@
-"""The six calls: what each answers, its edges and its refusals."""
+"""The form of what is told and answered, what there is with no summary, and init, add, bounds and what is kept."""
 
 import unittest
 
 from heavykeys.summary import answers
-from tests.helper import COUNT, ERROR, GREATEST, TOTAL, add, ask, bounds, init, state
+from tests.helper import (
+    COUNT, ERROR, GREATEST, PACK, TOTAL, add, ask, bounds, entry, heavy, init, merge, state, stream_row, summary_bytes,
+    unpack,
+)
+
+# The bytes of the summary of one counter in which key 7 has come with 5.
+ROW = [1, 0, 0, 0, 1, 0, 0, 0, 5, *[0] * 15, 7, *[0] * 7, 5, *[0] * 7]
+# All twelve calls, with refusals of each sort.
+TWELVE = [
+    3, 11, 40, *ROW, 2, 8, 3, 3, 4, 5, 7, 6, 7, 0, 7, 1, 8, 1, 2, 8, 0, 1, 8, 1, 0, 10, 9, 40, *ROW, 10,
+    12, 4, 8, 1, 9, 2, 12, 1, 5, 9, 0, 11, 0, 1, 0, 1, 2,
+]
 
 
 class Form(unittest.TestCase):
@@ -14,8 +25,34 @@ class Form(unittest.TestCase):
         self.assertEqual(answers([1, 2, 4]), [1, 0, 2, 0, 0])
         self.assertEqual(answers([1, 2, 5, 7]), [1, 0, 4, 0, 0, 0, 0])
         self.assertEqual(answers([1, 2, 6]), [1, 0, 2, 0, 0])
+        self.assertEqual(answers([1, 2, 2, 7, 5, 7, 0]), [1, 0, 1, 0, 3, 0, 7, 5])
+        self.assertEqual(answers([1, 2, 2, 7, 5, 8, 1, 2]), [1, 0, 1, 0, 3, 0, 1, 7])
+        self.assertEqual(answers([1, 2, 8, 1, 2]), [1, 0, 2, 0, 0])
+        self.assertEqual(answers([1, 1, 9, 40, *ROW]), [1, 0, 1, 0])
+        self.assertEqual(answers([1, 2, 10]), [1, 0, 26, 0, 24, 2, *[0] * 23])
+        self.assertEqual(answers([11, 40, *ROW]), [1, 0])
+        self.assertEqual(answers([11, 40, *ROW, 10]), [1, 0, 42, 0, 40, *ROW])
+        self.assertEqual(answers([1, 2, 12, 4, 7, 5, 8, 3]), [1, 0, 1, 0])
 
-    def test_all_six_in_one_list(self):
+    def test_an_empty_row_has_its_count_before_it_too(self):
+        self.assertEqual(answers([1, 2, 12, 0, 3]), [1, 0, 1, 0, 2, 0, 0])
+        self.assertEqual(answers([1, 2, 9, 0, 3]), [1, 0, 1, -1, 2, 0, 0])
+        self.assertEqual(answers([11, 0, 3]), [1, -1, 1, -9])
+
+    def test_rows_of_400_numbers(self):
+        self.assertEqual(answers([1, 2, 12, 400, *[7, 1] * 200, 3]), [1, 0, 1, 0, 2, 0, 200])
+        self.assertEqual(answers([1, 2, 9, 400, *[3] * 400, 3]), [1, 0, 1, -1, 2, 0, 0])
+        self.assertEqual(answers([11, 400, *[3] * 400, 1, 2, 3]), [1, -1, 1, 0, 2, 0, 0])
+
+    def test_all_twelve_in_one_list(self):
+        both = [1, 0, 0, 0, 1, 0, 0, 0, 13, *[0] * 7, 3, *[0] * 7, 7, *[0] * 7, 7, *[0] * 7]
+        one = [1, 0, 0, 0, 1, 0, 0, 0, 8, *[0] * 7, 3, *[0] * 7, 7, *[0] * 7, 2, *[0] * 7]
+        self.assertEqual(answers(TWELVE), [
+            1, -9, 1, 0, 1, 0, 2, 0, 8, 2, 0, 3, 4, 0, 1, 2, 5, 2, 0, 1, 3, 0, 7, 2, 1, -2, 3, 0, 1, 7, 1, -3, 1, -1,
+            42, 0, 40, *one, 1, 0, 42, 0, 40, *both, 1, 0, 1, -1, 1, -1, 1, -1, 1, -1, 1, 0,
+        ])
+
+    def test_the_first_six_in_one_list(self):
         calls = [1, 1, 2, 7, 5, 2, 8, 3, 3, 4, 5, 7, 5, 8, 6]
         self.assertEqual(
             answers(calls),
@@ -26,22 +63,37 @@ class Form(unittest.TestCase):
         self.assertEqual(answers([1, 0]), [1, -1])
         self.assertEqual(answers([3]), [1, -9])
         self.assertEqual(answers([1, 1, 2, 7, 2 ** 32, 3]), [1, 0, 1, -1, 2, 0, 0])
+        self.assertEqual(answers([1, 1, 7, 0]), [1, 0, 1, -2])
+        self.assertEqual(answers([1, 1, 8, 1, 0]), [1, 0, 1, -1])
+        self.assertEqual(answers([1, 1, 2, 7, 5, 2, 8, 3, 8, 0, 1]), [1, 0, 1, 0, 1, 0, 1, -3])
 
     def test_answers_are_a_list_of_ints_and_no_bools(self):
-        told = answers([1, 1, 2, 7, 5, 5, 7, 5, 8, 3, 4, 6, 1, 0])
-        self.assertIs(type(told), list)
-        self.assertEqual({type(number) for number in told}, {int})
+        for calls in ([1, 1, 2, 7, 5, 5, 7, 5, 8, 3, 4, 6, 1, 0], TWELVE):
+            told = answers(calls)
+            self.assertIs(type(told), list)
+            self.assertEqual({type(number) for number in told}, {int})
 
     def test_the_list_handed_in_stays_the_same(self):
-        calls = [1, 1, 2, 7, 5, 2, 8, 3, 3, 4, 5, 7, 6, 1, 0]
-        before = list(calls)
-        answers(calls)
-        self.assertEqual(calls, before)
+        for calls in ([1, 1, 2, 7, 5, 2, 8, 3, 3, 4, 5, 7, 6, 1, 0], list(TWELVE)):
+            before = list(calls)
+            answers(calls)
+            self.assertEqual(calls, before)
+
+    def test_the_list_handed_in_is_not_changed_for_a_while_either(self):
+        class Fixed(list):
+            def refuse(self, *args, **kwargs):
+                raise AssertionError("the list handed in was changed")
+
+            append = extend = insert = pop = remove = clear = sort = reverse = refuse
+            __setitem__ = __delitem__ = __iadd__ = __imul__ = refuse
+
+        self.assertEqual(answers(Fixed(TWELVE)), answers(TWELVE))
 
     def test_nothing_is_kept_from_one_time_to_the_next(self):
         calls = [1, 2, 2, 7, 5, 2, 8, 3, 2, 9, 1, 3, 4, 5, 7, 6]
-        first = answers(calls)
-        self.assertEqual(answers(calls), first)
+        for again in (calls, TWELVE):
+            first = answers(again)
+            self.assertEqual(answers(again), first)
         self.assertEqual(answers([3]), [1, -9])
         self.assertEqual(answers([1, 2, 3, 4, 6]), [1, 0, 2, 0, 0, 2, 0, 0, 2, 0, 0])
 
@@ -56,12 +108,20 @@ class Form(unittest.TestCase):
 
 
 class NoSummary(unittest.TestCase):
-    def test_each_call_but_init_is_refused(self):
-        for call in (add(7, 5), TOTAL, ERROR, bounds(7), COUNT):
+    def test_each_call_but_init_and_unpack_is_refused(self):
+        calls = (add(7, 5), TOTAL, ERROR, bounds(7), COUNT, entry(0), heavy(1, 2), merge(ROW), PACK, stream_row([7, 5]))
+        for call in calls:
             self.assertEqual(ask(call), [[-9]], call)
+            self.assertEqual(ask(call, init(0), call, unpack([]), call), [[-9], [-1], [-9], [-1], [-9]], call)
 
-    def test_comes_before_other_refusals(self):
-        self.assertEqual(ask(add(7, 2 ** 32)), [[-9]])
+    def test_whatever_the_numbers_are(self):
+        calls = [add(7, 2 ** 32), entry(GREATEST), heavy(0, 0), heavy(2, 1), heavy(0, 1), merge([]), merge([0] * 400)]
+        calls += [merge(summary_bytes(2, 5, 0, [(7, 5)])), stream_row([]), stream_row([7]), stream_row([7, 2 ** 32])]
+        self.assertEqual(ask(*calls), [[-9]] * len(calls))
+
+    def test_after_an_unpack_there_is_one(self):
+        told = ask(TOTAL, unpack(ROW), TOTAL, unpack([]), TOTAL)
+        self.assertEqual(told, [[-9], [0], [0, 5], [-1], [0, 5]])
 
     def test_after_a_refused_init_there_is_still_none(self):
         self.assertEqual(ask(init(0), TOTAL, init(1025), COUNT), [[-1], [-9], [-1], [-9]])

@@ -1,10 +1,10 @@
-"""What twenty calls are too few to show: long streams, the greatest k, and the greatest sum of all weights."""
+"""What twenty calls and rows of 400 numbers are too few to show: long streams, and tables of 1,024 keys."""
 
 import unittest
 
 from heavykeys.counters import Summary
-from heavykeys.summary import answer_add
-from tests.helper import made_stream, model, true_weights
+from heavykeys.packed import pack, unpack
+from tests.helper import GREATEST, made_stream, model, model_merged, summary_bytes, true_weights
 
 
 def summary_of(k, stream):
@@ -50,25 +50,27 @@ class LongStreams(unittest.TestCase):
         self.assertEqual(summary_of(1024, stream).error, 1)
 
 
-class TooMuch(unittest.TestCase):
-    def near_the_end(self, room):
-        summary = Summary(2)
-        summary.add(7, 5)
-        summary.total = 2 ** 63 - room
-        return summary
+class ManyKeys(unittest.TestCase):
+    def test_1024_keys_are_told_as_bytes_and_taken_from_them(self):
+        full = summary_of(1024, [(GREATEST - key, key % 5 + 1) for key in range(1024)])
+        row = pack(full)
+        self.assertEqual(len(row), 24 + 16 * 1024)
+        self.assertEqual(row, summary_bytes(1024, *model(1024, list(full.table.items()))))
+        again = unpack(row)
+        self.assertEqual((again.k, again.total, again.error, again.table), (1024, full.total, 0, full.table))
 
-    def test_all_may_come_to_just_below_2_to_the_63(self):
-        summary = self.near_the_end(4)
-        self.assertEqual(answer_add(summary, 7, 3), [0])
-        self.assertEqual((summary.total, summary.table), (2 ** 63 - 1, {7: 8}))
-        self.assertEqual(answer_add(summary, 8, 0), [0])
+    def test_1025_keys_are_no_summarys(self):
+        table = [(key, 1) for key in range(1025)]
+        self.assertIsNone(unpack(summary_bytes(1024, 1025, 0, table)))
+        self.assertIsNone(unpack(summary_bytes(1025, 1025, 0, table)))
 
-    def test_all_that_would_come_to_2_to_the_63_is_refused(self):
-        for weight in (4, 5, 2 ** 32 - 1, 2 ** 32):
-            summary = self.near_the_end(4)
-            self.assertEqual(answer_add(summary, 7, weight), [-1])
-            self.assertEqual(answer_add(summary, 8, weight), [-1])
-            self.assertEqual((summary.total, summary.error, summary.table), (2 ** 63 - 4, 0, {7: 5}))
+    def test_two_full_tables_are_put_together(self):
+        streams = [[(key * step, key % 7 + 1) for key in range(1024)] for step in (2, 3)]
+        one, other = [summary_of(1024, stream) for stream in streams]
+        one.merge(other)
+        total, error, table = model_merged(1024, model(1024, streams[0]), model(1024, streams[1]))
+        self.assertGreater(error, 0)
+        self.assertEqual((one.total, one.error, one.table), (total, error, dict(table)))
 
 
 if __name__ == "__main__":

@@ -107,6 +107,33 @@ class Language(unittest.TestCase):
         for where, node in nodes(ast.Attribute):
             self.assertNotIn(node.attr, NAMES_NOWHERE, where)
 
+    def test_no_value_of_an_object_is_called_like_a_method(self):
+        methods = {part.name for where, node in nodes(ast.ClassDef) for part in node.body}
+        for where, node in nodes(ast.Attribute):
+            if isinstance(node.ctx, ast.Store):
+                self.assertNotIn(node.attr, methods | (OWN_METHODS - {"count", "index", "find", "get"}), where)
+
+    def test_nothing_is_called_like_an_import_of_its_file(self):
+        imports = {(where.split(":")[0], alias.name) for where, node in nodes(ast.ImportFrom) for alias in node.names}
+        for where, node in nodes(ast.Name, ast.arg):
+            if isinstance(node, ast.arg) or isinstance(node.ctx, ast.Store):
+                name = node.arg if isinstance(node, ast.arg) else node.id
+                self.assertNotIn((where.split(":")[0], name), imports, where)
+
+    def test_no_two_files_draw_from_one_another(self):
+        drawn = {}
+        for where, node in nodes(ast.ImportFrom):
+            drawn.setdefault(where.split(":")[0], []).append(node.module.split(".")[1] + ".py")
+        for start in drawn:
+            reached = set()
+            waiting = list(drawn[start])
+            while waiting:
+                name = waiting.pop()
+                if name not in reached:
+                    reached.add(name)
+                    waiting += drawn.get(name, [])
+            self.assertNotIn(start, reached)
+
 
 if __name__ == "__main__":
     unittest.main()
